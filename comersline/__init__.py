@@ -1,0 +1,1 @@
+"""Comersline: a queue in which each lets so many newcomers past."""

@@ -1,0 +1,79 @@
+"""Points 2 and 3: what is handed in stays as it is, and what is told is the asker's own."""
+
+import copy
+import unittest
+
+from comersline.errors import LineError
+from comersline.lasts import last_of, refuser_at, unsafe_at, went_past, who_ahead
+from comersline.plans import how_many, is_plan, left_at, patience_of, queue_at
+
+PLAN = [[[3, 0, None], 5], [[1, 2], None]]
+ASKED = ((is_plan,), (how_many,), (patience_of, 6), (queue_at, 9), (left_at, 9), (last_of, 4), (went_past, 4, 9),
+         (who_ahead, 2, 7), (unsafe_at, 9), (refuser_at, 9))
+
+
+def as_tuples(thing):
+    return tuple(as_tuples(inner) for inner in thing) if isinstance(thing, list) else thing
+
+
+def answers_of(plan):
+    return [ask(plan, *more) for ask, *more in ASKED]
+
+
+class Kept(unittest.TestCase):
+    def test_what_is_handed_in_is_not_changed(self):
+        plan = copy.deepcopy(PLAN)
+        answers_of(plan)
+        self.assertEqual(plan, PLAN)
+
+    def test_what_is_refused_changes_nothing(self):
+        plan = copy.deepcopy(PLAN)
+        for ask, *more in ASKED[2:]:
+            with self.assertRaises(LineError):
+                ask(plan, *([-1] * len(more)))
+        self.assertEqual(plan, PLAN)
+        self.assertEqual(answers_of(plan), answers_of(PLAN))
+
+    def test_told_lists_are_lists_and_new(self):
+        for ask in (queue_at, left_at):
+            told = ask(PLAN, 9)
+            again = ask(PLAN, 9)
+            self.assertIs(type(told), list)
+            self.assertEqual(told, again)
+            self.assertIsNot(told, again)
+            told.clear()
+            self.assertEqual(ask(PLAN, 9), again)
+
+    def test_told_numbers_are_no_truths(self):
+        plan = [([0, 1], 2)]
+        for told in (how_many([([1], 1)]), patience_of(plan, 1), last_of(plan, 0), last_of(plan, 1),
+                     went_past([([1], 2)], 0, 2), who_ahead(plan, 1, 0), unsafe_at(plan, 2), refuser_at(plan, 1),
+                     *queue_at(plan, 2), *left_at(plan, 2)):
+            self.assertIs(type(told), int)
+
+    def test_a_plan_changed_later_is_asked_anew(self):
+        plan = copy.deepcopy(PLAN)
+        told = queue_at(plan, 9)
+        kept = list(told)
+        plan[0][0][0] = 0
+        plan[1][1] = 3
+        self.assertEqual(told, kept)
+        self.assertEqual(how_many(plan), 8)
+        self.assertEqual(answers_of(PLAN), answers_of(copy.deepcopy(PLAN)))
+
+    def test_lists_and_tuples_are_told_the_same(self):
+        self.assertEqual(answers_of(as_tuples(PLAN)), answers_of(PLAN))
+        self.assertEqual(answers_of([((3, 0, None), 5), [(1, 2), None]]), answers_of(PLAN))
+
+    def test_the_same_asked_again_is_told_the_same(self):
+        first = answers_of(PLAN)
+        answers_of([([0], 20)])
+        self.assertEqual(answers_of(PLAN), first)
+
+    def test_what_is_told_may_be_handed_in(self):
+        greatest = last_of([([10 ** 30], None)], (10 ** 30 + 1) * (10 ** 10 - 2))
+        self.assertEqual(last_of([([0], None)], 10 ** 20 * greatest), 10 ** 20 * greatest)
+
+
+if __name__ == "__main__":
+    unittest.main()
