@@ -61,7 +61,7 @@ class NoText(LineError):
     """No text of a plan; sign is the number of its first piece without form, or None."""
 
     def __init__(self, sign):
-        LineError.__init__(self, f"no text of a plan: piece {sign}")
+        LineError.__init__(self, "no text of a plan")
         self.sign = sign
 
 

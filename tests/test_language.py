@@ -33,6 +33,15 @@ def bound_names(tree):
             yield node.name
 
 
+def defined_names(tree):
+    """What a file itself defines at module level, its imports left out."""
+    for node in tree.body:
+        if isinstance(node, (ast.FunctionDef, ast.ClassDef)):
+            yield node.name
+        elif isinstance(node, ast.Assign):
+            yield node.targets[0].id
+
+
 class Language(unittest.TestCase):
     def test_files_and_signs(self):
         for thing in PACKAGE.iterdir():
@@ -67,8 +76,7 @@ class Language(unittest.TestCase):
                 if isinstance(node, ast.ImportFrom):
                     package, module = node.module.split(".")
                     self.assertEqual((package, node.level, module in names), ("comersline", 0, True))
-                    defined = {inner.name for inner in ast.parse((PACKAGE / f"{module}.py").read_text()).body
-                               if isinstance(inner, (ast.FunctionDef, ast.ClassDef))}
+                    defined = set(defined_names(ast.parse((PACKAGE / f"{module}.py").read_text())))
                     for name in node.names:
                         self.assertTrue(name.name in defined and name.asname is None, (file.name, name.name))
 
