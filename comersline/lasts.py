@@ -1,25 +1,15 @@
 """Who goes past whom: the last newcomer of each, and who is not safe."""
 
 from comersline.errors import NoMoment, NoOther
-from comersline.plans import check_moment, check_person, many_in, patience_at, pieces_of
-from comersline.walks import walk_level
+from comersline.plans import check_moment, check_person, pieces_of
+from comersline.walks import last_opener, outer_bound, runs_on, spare_on
+from comersline.windows import windows_in
 
 
 def last_in(pieces, person):
-    """The last one that goes past a person that comes by the pieces, or None without end.
-
-    A window within another one has an opener of less patience, so this goes at most as deep
-    as there are unlike patiences.
-    """
-    many = many_in(pieces)
-    bound = None if many is None else many - 1
-    walk = walk_level(pieces, 0, bound, person)
-    while walk.here == walk.opener:
-        bound = walk.here + patience_at(pieces, walk.here)
-        if walk.here == person:
-            return bound
-        walk = walk_level(pieces, walk.here + 1, bound, person)
-    return bound
+    """The last one that goes past a person that comes by the pieces, or None without end."""
+    around = windows_in(pieces, person)
+    return around[-1][1] if around else outer_bound(pieces)
 
 
 def last_of(plan, person):
@@ -54,21 +44,21 @@ def who_ahead(plan, one, other):
     return newer if last is None or last >= newer else older
 
 
-def walk_to(plan, moment):
-    """The walk along the windows with none around them, as if nobody came from a moment on.
+def runs_to(plan, moment):
+    """The runs along the windows with none around them, as if nobody came from a moment on.
 
     Whoever that leaves over there is not safe by then, and nobody else; NoPlan, NoMoment.
     """
     pieces = pieces_of(plan)
     check_moment(pieces, moment)
-    return walk_level(pieces, 0, moment - 1, moment - 1)
+    return runs_on(pieces, 0, moment - 1, moment - 1)
 
 
 def unsafe_at(plan, moment):
     """How many are not safe at a moment; NoPlan, NoMoment."""
-    return walk_to(plan, moment).spare
+    return spare_on(runs_to(plan, moment))
 
 
 def refuser_at(plan, moment):
     """The one farthest back that has no patience left at a moment, or None; NoPlan, NoMoment."""
-    return walk_to(plan, moment).opener
+    return last_opener(runs_to(plan, moment))

@@ -60,18 +60,25 @@ def many_in(pieces):
     return pieces[-1][1]
 
 
-def piece_at(pieces, person):
-    """The piece by which one that comes does come."""
+def piece_number(pieces, person):
+    """The number, from 0 on, of the piece by which one that comes does come."""
     at = 0
     while pieces[at][1] is not None and pieces[at][1] <= person:
         at += 1
-    return pieces[at]
+    return at
+
+
+def turn_at(pieces, person):
+    """Where the patience of one that comes stands: the number of its piece, its place in the round."""
+    at = piece_number(pieces, person)
+    first, past, turns = pieces[at]
+    return at, (person - first) % len(turns)
 
 
 def patience_at(pieces, person):
     """The patience of one that comes by the pieces."""
-    first, past, turns = piece_at(pieces, person)
-    return turns[(person - first) % len(turns)]
+    at, turn = turn_at(pieces, person)
+    return pieces[at][2][turn]
 
 
 def check_person(pieces, person):

@@ -1,4 +1,4 @@
-"""Walks along one level of windows.
+"""Walks along one level of windows, step by step, whole rounds of steps at once.
 
 A window is opened by a person and reaches over as many behind it as its patience tells.
 A level begins at a person and has a bound, the last of the window around it. On it each one
@@ -6,42 +6,44 @@ that comes next either opens a window that doesn't reach beyond the bound, and t
 the level is the one behind that window, or is left over, and the next is the one behind it.
 """
 
-from comersline.plans import piece_at
+from comersline.plans import many_in, piece_number, turn_at
 
 
-class Walk:
-    """A walk along one level: who comes next, and what has been met so far."""
+class Run:
+    """Steps along a level that are taken over and over, one round of them behind the other.
 
-    def __init__(self, start):
-        self.ahead = start
-        # The last one met on the level, and the last one met there that opens a window.
-        self.here = None
-        self.opener = None
-        # How many have been met that are left over.
-        self.spare = 0
+    A step is a tuple (person, width): whom it meets the first time, and how many the window
+    holds which this one opens, 0 where it is left over.
+    """
 
-
-def walk_level(pieces, start, bound, stop):
-    """The walk from start on that has met all on the level up to stop; no bound is None."""
-    walk = Walk(start)
-    while walk.ahead <= stop:
-        cross_stretch(walk, piece_at(pieces, walk.ahead), bound, stop)
-    return walk
+    def __init__(self, steps, room):
+        """As often as people have room, but once at least."""
+        self.steps = steps
+        # How many are left over in one round, and how many people it goes over in all.
+        self.spare = len([width for person, width in steps if width == 0])
+        self.length = self.spare + sum([width for person, width in steps])
+        self.times = max(1, room // self.length)
 
 
-def cross_stretch(walk, piece, bound, stop):
-    """Goes on to the end of the stretch in which each turn of the round takes the same step."""
-    first, past, turns = piece
-    end = stretch_end(piece, walk.ahead, bound, stop)
-    widths = window_widths(turns, walk.ahead, bound)
-    seen = {}
-    while walk.ahead <= end:
-        turn = (walk.ahead - first) % len(turns)
-        if turn in seen:
-            skip_rounds(walk, seen[turn], end)
-            seen = {}
-        seen[turn] = (walk.ahead, walk.spare)
-        meet_one(walk, widths[turn])
+def runs_on(pieces, start, bound, stop):
+    """The runs from start on that meet all on the level up to stop; no bound is None.
+
+    Within a run all steps begin in one piece, and where they are taken more than once, they
+    stay within it.
+    """
+    runs = []
+    ahead = start
+    while ahead <= stop:
+        piece = pieces[piece_number(pieces, ahead)]
+        end = stretch_end(piece, ahead, bound, stop)
+        once, again = stretch_steps(piece, ahead, bound, end)
+        if once:
+            runs.append(Run(once, 0))
+            ahead += runs[-1].length
+        if again:
+            runs.append(Run(again, end + 1 - ahead))
+            ahead += runs[-1].times * runs[-1].length
+    return runs
 
 
 def stretch_end(piece, start, bound, stop):
@@ -63,23 +65,55 @@ def window_widths(turns, start, bound):
     return widths
 
 
-def meet_one(walk, width):
-    """Meets the one ahead, that opens a window of so many, or is left over."""
-    walk.here = walk.ahead
-    if width == 0:
-        walk.spare += 1
-        walk.ahead += 1
-    else:
-        walk.opener = walk.ahead
-        walk.ahead += width
+def stretch_steps(piece, start, bound, end):
+    """The steps of a stretch till a turn comes again, or its end: those once taken, those again."""
+    first, past, turns = piece
+    widths = window_widths(turns, start, bound)
+    steps = []
+    met = {}
+    ahead = start
+    while ahead <= end:
+        turn = (ahead - first) % len(turns)
+        if turn in met:
+            return steps[:met[turn]], steps[met[turn]:]
+        met[turn] = len(steps)
+        steps.append((ahead, widths[turn]))
+        ahead += max(widths[turn], 1)
+    return steps, []
 
 
-def skip_rounds(walk, earlier, end):
-    """Repeats what was met since an earlier one at the same turn, as often as the end lets."""
-    start, spare = earlier
-    length = walk.ahead - start
-    times = (end - walk.ahead) // length
-    if walk.opener is not None and walk.opener >= start:
-        walk.opener += times * length
-    walk.spare += times * (walk.spare - spare)
-    walk.ahead += times * length
+def outer_bound(pieces):
+    """The bound of the level with no window around it: the last one that comes, or None."""
+    many = many_in(pieces)
+    return None if many is None else many - 1
+
+
+def last_step(runs):
+    """The last step of all."""
+    run = runs[-1]
+    person, width = run.steps[-1]
+    return person + (run.times - 1) * run.length, width
+
+
+def last_opener(runs):
+    """The last one met that opens a window, or None."""
+    for run in reversed(runs):
+        openers = [person for person, width in run.steps if width > 0]
+        if openers:
+            return openers[-1] + (run.times - 1) * run.length
+    return None
+
+
+def spare_on(runs):
+    """How many are met that are left over."""
+    return sum([run.times * run.spare for run in runs])
+
+
+def window_kind(pieces, opener, last):
+    """A key that only windows have in common in which all stand alike.
+
+    Windows that one turn of a piece opens are alike as long as they stay within the piece.
+    """
+    at, turn = turn_at(pieces, opener)
+    past = pieces[at][1]
+    return (at, turn) if past is None or last < past else (opener,)

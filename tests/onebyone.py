@@ -107,3 +107,55 @@ def larger_plans(many):
         if chance.random() < 0.5:
             pieces[-1] = (pieces[-1][0], None)
         yield pieces
+
+
+def brought_by(plan):
+    """How many come by a plan, or None."""
+    return None if plan[-1][1] is None else sum(many for _, many in plan)
+
+
+def windows_by_hops(plan, many):
+    """The windows around each of the first so many, by hops from opener to opener, as point 10
+    tells: the outermost first, its own the last."""
+    patiences = patiences_of(plan, many)
+    brings = brought_by(plan)
+    around = {}
+
+    def hop_along(person, bound, outer):
+        while person < len(patiences) and (bound is None or person <= bound):
+            patience = patiences[person]
+            around[person] = list(outer)
+            if patience is None or (bound is not None and person + patience > bound):
+                person += 1
+                continue
+            around[person].append((person, person + patience))
+            hop_along(person + 1, person + patience, around[person])
+            person += patience + 1
+
+    hop_along(0, None if brings is None else brings - 1, [])
+    return [around[person] for person in range(len(patiences))]
+
+
+def least_by_each(plan, many):
+    """The least plan, by the greatest number that goes past each of the first so many."""
+    patiences = patiences_of(plan, many)
+    ends = plan[-1][1] is not None
+    lasts = lasts_of(patiences)
+    reach = max([patience for patience in patiences if patience is not None], default=0)
+    told, person = [], 0
+    for turns, brings in plan:
+        used = [0] * len(turns)
+        for place in itertools.count():
+            # In a plan without end one whose last may just be too far to be seen is left out.
+            if place == brings or person >= (len(patiences) if ends else len(patiences) - reach - 1):
+                break
+            last = len(patiences) - 1 if ends and lasts[person] is None else lasts[person]
+            turn = place % len(turns)
+            used[turn] = None if last is None or used[turn] is None else max(used[turn], last - person)
+            person += 1
+        told.append((used, brings))
+    return told
+
+
+def greatest_of(plan):
+    return max([patience for turns, _ in plan for patience in turns if patience is not None], default=0)

@@ -5,11 +5,19 @@ import unittest
 
 from comersline.errors import LineError
 from comersline.lasts import last_of, refuser_at, unsafe_at, went_past, who_ahead
+from comersline.least import alike_at, are_alike, least_plan
+from comersline.places import person_at, place_of
 from comersline.plans import how_many, is_plan, left_at, patience_of, queue_at
+from comersline.rounds import passes_by, round_of
+from comersline.windows import is_around, window_of, windows_around
 
 PLAN = [[[3, 0, None], 5], [[1, 2], None]]
+OTHER = [[[3, 0, 4], 5], [[1, 2], None]]
+AROUND = [[4, 4]]
 ASKED = ((is_plan,), (how_many,), (patience_of, 6), (queue_at, 9), (left_at, 9), (last_of, 4), (went_past, 4, 9),
-         (who_ahead, 2, 7), (unsafe_at, 9), (refuser_at, 9))
+         (who_ahead, 2, 7), (unsafe_at, 9), (refuser_at, 9), (place_of, 9, 4), (person_at, 9, 4), (window_of, 4),
+         (windows_around, 4), (is_around, 4, AROUND), (round_of,), (passes_by, 9), (least_plan,), (are_alike, OTHER),
+         (alike_at, OTHER, 9))
 
 
 def as_tuples(thing):
@@ -26,11 +34,19 @@ class Kept(unittest.TestCase):
         answers_of(plan)
         self.assertEqual(plan, PLAN)
 
+    def test_nor_are_another_plan_and_what_is_judged(self):
+        other, around = copy.deepcopy(OTHER), copy.deepcopy(AROUND)
+        are_alike(PLAN, other)
+        alike_at(PLAN, other, 9)
+        is_around(PLAN, 4, around)
+        self.assertEqual((other, around), (OTHER, AROUND))
+
     def test_what_is_refused_changes_nothing(self):
         plan = copy.deepcopy(PLAN)
         for ask, *more in ASKED[2:]:
-            with self.assertRaises(LineError):
-                ask(plan, *([-1] * len(more)))
+            if more:
+                with self.assertRaises(LineError):
+                    ask(plan, *([-1] * len(more)))
         self.assertEqual(plan, PLAN)
         self.assertEqual(answers_of(plan), answers_of(PLAN))
 
@@ -44,11 +60,36 @@ class Kept(unittest.TestCase):
             told.clear()
             self.assertEqual(ask(PLAN, 9), again)
 
+    def test_told_windows_are_tuples_in_a_new_list(self):
+        told = windows_around([([5, 4, 1, 0], None)], 2)
+        again = windows_around([([5, 4, 1, 0], None)], 2)
+        self.assertEqual([type(told)] + [type(window) for window in told], [list, tuple, tuple, tuple])
+        self.assertIsNot(told, again)
+        told.clear()
+        self.assertEqual(windows_around([([5, 4, 1, 0], None)], 2), again)
+        self.assertIs(type(window_of(PLAN, 4)), tuple)
+        empty = windows_around([([None], None)], 2)
+        empty.append((0, 0))
+        self.assertEqual(windows_around([([None], None)], 2), [])
+
+    def test_a_told_plan_is_new_down_to_what_is_within_it(self):
+        for plan in (PLAN, as_tuples(PLAN), least_plan(PLAN)):
+            told = least_plan(plan)
+            kept = copy.deepcopy(told)
+            self.assertEqual([type(told)] + [type(piece) for piece in told], [list, tuple, tuple])
+            for turns, many in told:
+                self.assertIs(type(turns), list)
+                turns.append(7)
+            told.clear()
+            self.assertEqual(least_plan(plan), kept)
+
     def test_told_numbers_are_no_truths(self):
         plan = [([0, 1], 2)]
         for told in (how_many([([1], 1)]), patience_of(plan, 1), last_of(plan, 0), last_of(plan, 1),
                      went_past([([1], 2)], 0, 2), who_ahead(plan, 1, 0), unsafe_at(plan, 2), refuser_at(plan, 1),
-                     *queue_at(plan, 2), *left_at(plan, 2)):
+                     *queue_at(plan, 2), *left_at(plan, 2), place_of(plan, 2, 1), person_at(plan, 2, 1),
+                     *window_of(plan, 0), *windows_around(plan, 0)[0], *round_of([([0], None)]), passes_by(plan, 1),
+                     *least_plan([([1, 0], 2)])[0][0], least_plan([([1], 1)])[0][1]):
             self.assertIs(type(told), int)
 
     def test_a_plan_changed_later_is_asked_anew(self):
@@ -67,7 +108,7 @@ class Kept(unittest.TestCase):
 
     def test_the_same_asked_again_is_told_the_same(self):
         first = answers_of(PLAN)
-        answers_of([([0], 20)])
+        answers_of([([0], None)])
         self.assertEqual(answers_of(PLAN), first)
 
     def test_what_is_told_may_be_handed_in(self):
