@@ -1,6 +1,5 @@
 """Least plans, and whether two plans make one queue."""
 
-from comersline.errors import NoMoment
 from comersline.plans import check_moment, many_in, pieces_of, piece_number, turn_at
 from comersline.rounds import round_in
 from comersline.walks import outer_bound, runs_on, window_kind

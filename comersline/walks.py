@@ -13,11 +13,11 @@ class Run:
     """Steps along a level that are taken over and over, one round of them behind the other.
 
     A step is a tuple (person, width): whom it meets the first time, and how many the window
-    holds which this one opens, 0 where it is left over.
+    holds which this one opens, 0 where it is left over. The rounds go over at most as many
+    people as there is room for, but one round is taken in any case.
     """
 
     def __init__(self, steps, room):
-        """As often as people have room, but once at least."""
         self.steps = steps
         # How many are left over in one round, and how many people it goes over in all.
         self.spare = len([width for person, width in steps if width == 0])

@@ -80,6 +80,29 @@ class Language(unittest.TestCase):
                     for name in node.names:
                         self.assertTrue(name.name in defined and name.asname is None, (file.name, name.name))
 
+    def test_imports_are_used_and_hidden_by_nothing(self):
+        for file, _, tree in trees():
+            imported = {name.asname or name.name for node in tree.body if isinstance(node, ast.ImportFrom)
+                        for name in node.names}
+            read = {node.id for node in ast.walk(tree) if isinstance(node, ast.Name) and isinstance(node.ctx, ast.Load)}
+            self.assertEqual(imported - read, set(), file.name)
+            self.assertEqual(imported & set(bound_names(tree)), set(), file.name)
+            functions = [node for node in tree.body if isinstance(node, (ast.FunctionDef, ast.ClassDef))]
+            classes = {node.name for node in functions if isinstance(node, ast.ClassDef)}
+            for node in functions:
+                inner = set(bound_names(ast.Module(node.body, [])))
+                self.assertEqual(inner & classes, set(), node.name)
+
+    def test_attributes_are_no_methods(self):
+        methods, attributes = set(), set()
+        for _, _, tree in trees():
+            for node in ast.walk(tree):
+                if isinstance(node, ast.ClassDef):
+                    methods |= {inner.name for inner in node.body if isinstance(inner, ast.FunctionDef)}
+                if isinstance(node, ast.Attribute) and isinstance(node.ctx, ast.Store):
+                    attributes.add(node.attr)
+        self.assertEqual(methods & attributes, set())
+
     def test_names_and_statements(self):
         for file, _, tree in trees():
             for name in bound_names(tree):

@@ -66,7 +66,8 @@ class LeastPlan(unittest.TestCase):
                             ([([3], 5)], [([3], 5)]), ([([None], 3)], [([2], 3)]),
                             ([([None], None)], [([None], None)]), ([([None, 3], None)], [([None, 3], None)]),
                             ([([1, None], None)], [([1, 0], None)]), ([([2, None], None)], [([2, None], None)]),
-                            ([([3, None], None)], [([3, 2], None)]), ([([3, FAR, None], None)], [([3, FAR, FAR - 1], None)]),
+                            ([([3, None], None)], [([3, 2], None)]),
+                            ([([3, FAR, None], None)], [([3, FAR, FAR - 1], None)]),
                             ([([4, 9], None)], [([4, 9], None)]), ([([5, 9], None)], [([5, 4], None)]),
                             ([([5, 5], None)], [([5, 4], None)]), ([([1, 1], None)], [([1, 0], None)]),
                             ([([7], 1), ([None], None)], [([7], 1), ([None], None)]),
@@ -80,8 +81,10 @@ class LeastPlan(unittest.TestCase):
                             ([([0, FAR], FAR)], [([0, FAR - 2], FAR)]), ([([FAR], None)], [([FAR], None)]),
                             ([([FAR, FAR], None)], [([FAR, FAR], None)]),
                             ([([FAR - 1, FAR], None)], [([FAR - 1, FAR - 2], None)]),
-                            ([([FAR], 1), ([None], FAR - 1), ([5], None)], [([FAR], 1), ([FAR - 1], FAR - 1), ([5], None)]),
-                            ([([FAR], 1), ([5], FAR - 1), ([None], None)], [([FAR], 1), ([5], FAR - 1), ([None], None)])):
+                            ([([FAR], 1), ([None], FAR - 1), ([5], None)],
+                             [([FAR], 1), ([FAR - 1], FAR - 1), ([5], None)]),
+                            ([([FAR], 1), ([5], FAR - 1), ([None], None)],
+                             [([FAR], 1), ([5], FAR - 1), ([None], None)])):
             self.assertEqual(least_plan(plan), least, plan)
 
     def test_within_one_another(self):
@@ -174,8 +177,8 @@ class AreAlike(unittest.TestCase):
             for _ in range(2):
                 other = []
                 for turns, many in least_plan(plan):
-                    more = [None if used is None else chance.choice((used, used, used, used + 1, None)) for used in turns]
-                    other.append((more, many))
+                    some = [(used,) if used is None else (used, used, used, used + 1, None) for used in turns]
+                    other.append(([chance.choice(more) for more in some], many))
                 told = people_at(plan, moment) == people_at(other, moment)
                 self.assertIs(are_alike(plan, other), told, (plan, other))
                 self.assertIs(are_alike(other, plan), told, (plan, other))

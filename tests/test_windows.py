@@ -184,7 +184,8 @@ class IsAround(unittest.TestCase):
     PLAN = [([5, 4, 1, 0], None)]
 
     def test_lists_and_tuples_are_one_here(self):
-        for thing in ([(0, 5), (1, 5), (2, 3)], ((0, 5), (1, 5), (2, 3)), [[0, 5], (1, 5), [2, 3]], ([0, 5], [1, 5], [2, 3])):
+        for thing in ([(0, 5), (1, 5), (2, 3)], ((0, 5), (1, 5), (2, 3)), [[0, 5], (1, 5), [2, 3]],
+                      ([0, 5], [1, 5], [2, 3])):
             self.assertIs(is_around(self.PLAN, 2, thing), True)
         self.assertIs(is_around([([None], None)], 2, []), True)
         self.assertIs(is_around([([None], None)], 2, ()), True)
@@ -203,12 +204,14 @@ class IsAround(unittest.TestCase):
         for thing in ([(0, 5), (1, 5)], [(1, 5), (0, 5), (2, 3)], [(0, 5), (1, 5), (2, 4)], [(0, 5), (1, 5), (1, 3)],
                       [(0, 5), (1, 5), (2, 3), (3, 3)], [(0, 5), (1, 5), (2, 3, 3)], [(0, 5), (1, 5), (2,)],
                       [(0, 5), (1, 5), 2], [(0, 5), (1, 5), (3, 2)], [(0, 5), (1, 5), None], [(0, 5), (1, 5), {2: 3}],
-                      [(0, 5), (1, 5), {2, 3}], [(0, 5), (1, 5), "23"], {(0, 5): 1, (1, 5): 1, (2, 3): 1}, [0, 5, 1], []):
+                      [(0, 5), (1, 5), {2, 3}], [(0, 5), (1, 5), "23"], {(0, 5): 1, (1, 5): 1, (2, 3): 1}, [0, 5, 1],
+                      []):
             self.assertIs(is_around(self.PLAN, 2, thing), False, thing)
 
     def test_a_truth_is_no_number(self):
         self.assertIs(is_around([([1], 2)], 0, [(0, 1)]), True)
-        for window in ((False, 1), (0, True), (0.0, 1), (0, 1.0), (0, 1 + 0j), ("0", 1), (Odd(), 1), (0, Odd()), b"\0\1"):
+        for window in ((False, 1), (0, True), (0.0, 1), (0, 1.0), (0, 1 + 0j), ("0", 1), (Odd(), 1), (0, Odd()),
+                       b"\0\1"):
             self.assertIs(is_around([([1], 2)], 0, [window]), False, window)
 
     def test_of_anything(self):
