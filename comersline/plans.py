@@ -39,13 +39,18 @@ def is_plan(thing):
     return sum(piece[1] for piece in thing if piece[1] is not None) <= GREATEST
 
 
+def check_plan(thing):
+    """NoPlan, unless it is a plan."""
+    if not is_plan(thing):
+        raise NoPlan("that is no plan")
+
+
 def pieces_of(plan):
     """A plan's pieces as a copy of one's own, tuples (first, past, turns); NoPlan.
 
     By a piece come those from first to before past, which is None without end.
     """
-    if not is_plan(plan):
-        raise NoPlan("that is no plan")
+    check_plan(plan)
     pieces = []
     first = 0
     for turns, many in plan:
@@ -107,16 +112,22 @@ def patience_of(plan, person):
     return patience_at(pieces, person)
 
 
+def let_past(left):
+    """The place at which one that comes stops; each it goes past has one patience less then."""
+    place = len(left)
+    while place > 0 and left[place - 1] != 0:
+        place -= 1
+        if left[place] is not None:
+            left[place] -= 1
+    return place
+
+
 def line_up(pieces, moment):
     """Who has come by a moment, and the patience each has left: two lists, the front first."""
     people = []
     left = []
     for person in range(moment):
-        place = len(people)
-        while place > 0 and left[place - 1] != 0:
-            place -= 1
-            if left[place] is not None:
-                left[place] -= 1
+        place = let_past(left)
         people.insert(place, person)
         left.insert(place, patience_at(pieces, person))
     return people, left

@@ -1,4 +1,4 @@
-"""What the tests hold the program against: people who come one by one, as point 6 tells."""
+"""What the tests hold the program against: people who come one by one, as points 6 and 18 tell."""
 
 import itertools
 import random
@@ -25,7 +25,7 @@ class Crowd:
         self.past = {}
 
     def come(self, patience):
-        newcomer = len(self.people)
+        newcomer = len(self.past)
         behind = []
         while self.people and self.left[self.people[-1]] != 0:
             one = self.people.pop()
@@ -37,6 +37,9 @@ class Crowd:
         self.people.extend(reversed(behind))
         self.left[newcomer] = patience
         self.past[newcomer] = []
+
+    def serve(self):
+        return self.people.pop(0)
 
     def lefts(self):
         return [self.left[one] for one in self.people]
@@ -57,6 +60,16 @@ def crowd_of(patiences):
     crowd = Crowd()
     for patience in patiences:
         crowd.come(patience)
+    return crowd
+
+
+def crowd_after(deeds):
+    crowd = Crowd()
+    for word, *patience in deeds:
+        if word == "come":
+            crowd.come(*patience)
+        else:
+            crowd.serve()
     return crowd
 
 

@@ -3,12 +3,16 @@
 import copy
 import unittest
 
+from comersline.desk import Desk
 from comersline.errors import LineError
 from comersline.lasts import last_of, refuser_at, unsafe_at, went_past, who_ahead
 from comersline.least import alike_at, are_alike, least_plan
+from comersline.line import Line, line_of
+from comersline.orders import barring, bars, is_order, least_patiences, rows_counted
 from comersline.places import person_at, place_of
 from comersline.plans import how_many, is_plan, left_at, patience_of, queue_at
 from comersline.rounds import passes_by, round_of
+from comersline.texts import read_plan, show_plan
 from comersline.windows import is_around, window_of, windows_around
 
 PLAN = [[[3, 0, None], 5], [[1, 2], None]]
@@ -17,7 +21,7 @@ AROUND = [[4, 4]]
 ASKED = ((is_plan,), (how_many,), (patience_of, 6), (queue_at, 9), (left_at, 9), (last_of, 4), (went_past, 4, 9),
          (who_ahead, 2, 7), (unsafe_at, 9), (refuser_at, 9), (place_of, 9, 4), (person_at, 9, 4), (window_of, 4),
          (windows_around, 4), (is_around, 4, AROUND), (round_of,), (passes_by, 9), (least_plan,), (are_alike, OTHER),
-         (alike_at, OTHER, 9))
+         (alike_at, OTHER, 9), (show_plan,))
 
 
 def as_tuples(thing):
@@ -114,6 +118,55 @@ class Kept(unittest.TestCase):
     def test_what_is_told_may_be_handed_in(self):
         greatest = last_of([([10 ** 30], None)], (10 ** 30 + 1) * (10 ** 10 - 2))
         self.assertEqual(last_of([([0], None)], 10 ** 20 * greatest), 10 ** 20 * greatest)
+
+
+class KeptOrders(unittest.TestCase):
+    def test_what_is_handed_in_is_not_changed(self):
+        for order in ([4, 2, 3, 0, 1], [1, 4, 3, 2, 0]):
+            handed, three = list(order), [2, 0, 1]
+            for ask, *more in ((is_order,), (barring,), (bars, three), (least_patiences,), (rows_counted, 9)):
+                told = ask(handed, *more)
+                self.assertEqual((handed, three), (order, [2, 0, 1]))
+                self.assertEqual(ask(tuple(order), *map(as_tuples, more)), told)
+                self.assertEqual(ask(order, *more), told)
+
+    def test_told_lists_are_new(self):
+        order = [1, 4, 3, 2, 0]
+        told = least_patiences(order)
+        self.assertIs(type(told), list)
+        told.clear()
+        self.assertEqual(least_patiences(order), [4, 0, 2, 1, 0])
+        order.clear()
+        self.assertEqual(least_patiences(order), [])
+
+    def test_what_is_told_may_be_handed_in(self):
+        order = Line()
+        for patience in (4, 0, 2, 1, 0):
+            order.come(patience)
+        self.assertEqual(least_patiences(order.queue()), [4, 0, 2, 1, 0])
+        barred = [4, 2, 3, 0, 1]
+        self.assertIs(bars(barred, barring(barred)), True)
+        self.assertEqual(rows_counted([0], rows_counted([1, 0], 9)), 91)
+
+
+class KeptTexts(unittest.TestCase):
+    def test_a_told_plan_is_the_askers_own(self):
+        plan = read_plan("3 0 never x 5, 1 2 x ever")
+        self.assertEqual(plan, [tuple(piece) for piece in PLAN])
+        plan[0][0][0] = 9
+        plan.pop()
+        self.assertEqual(read_plan("3 0 never x 5, 1 2 x ever"), [tuple(piece) for piece in PLAN])
+
+    def test_one_plan_by_all_ways(self):
+        self.assertEqual(show_plan(PLAN), "3 0 never x 5, 1 2 x ever")
+        self.assertEqual(show_plan(as_tuples(PLAN)), show_plan(PLAN))
+        desk = Desk()
+        desk.say("plan " + show_plan(PLAN))
+        desk.say("on 9")
+        line = line_of([("come", patience_of(PLAN, person)) for person in range(9)])
+        self.assertEqual(desk.say("front 9"), " ".join(map(str, line.queue())))
+        self.assertEqual(line.queue(), queue_at(PLAN, 9))
+        self.assertEqual(line.left(), left_at(PLAN, 9))
 
 
 if __name__ == "__main__":

@@ -70,3 +70,45 @@ def no_moments(many):
     if many is not None and many < 10 ** 30:
         things += [many + 1, many + 2, 10 ** 30]
     return things
+
+
+def no_patiences():
+    return [thing for thing in no_numbers() if thing is not None] + [-1, -10 ** 30, 10 ** 30 + 1, 10 ** 40 - 1, "never"]
+
+
+def no_orders():
+    """What is no order, by its kind, its length, or what is in it."""
+    orders = [thing for thing in no_numbers() if not isinstance(thing, (list, tuple)) or thing]
+    orders += [0, 1, -1, [-1], [0, 0], [0, 2], [1, 2], [1, 2, 3], [0, 1, 1], [2, 0], [0, 1, 3], [0, -1], [0, 10 ** 40 - 1]]
+    orders += [[False], [True], [0, True], [False, 1], [True, False], [0.0], [0, 1.0], ["0"], [None], [[0]], [(0,)],
+               [Odd()], [0, Odd()], [Odd(), 0], (1,), (True, 0), (0, 0), (0, 2), "0", "01", "10", b"\0", b"\0\1",
+               {0}, {0, 1}, {0: 1}, {0: 0, 1: 1}, range(2), [0, None], [0, "1"], [0, [1]], [[0, 1]], [range(1)]]
+    orders += [list(range(61)), tuple(range(61)), list(range(60, -1, -1)), list(range(300)), [0] * 60, [0] * 61,
+               list(range(1, 61)), list(range(59)) + [58], list(range(59)) + [60], list(range(59)) + [59.0]]
+    return orders
+
+
+def no_histories():
+    """What is no list of deeds that can be done."""
+    deeds = [thing for thing in no_numbers()] + [0, 1, -1]
+    deeds += [("come",), ("come", 1, 1), ("come", True), ("come", False), ("come", -1), ("come", 1.0), ("come", "1"),
+              ("come", 10 ** 30 + 1), ("come", Odd()), ("come", [1]), ("come", (1,)), ("come", "never"), ("come", ()),
+              ("serve", None), ("serve", 0), ("serve", 0, 0), ["serve", 1], ("Come", 1), ("COME", 1), ("come ", 1),
+              (" come", 1), ("Serve",), ("serve ",), ("undo",), ("undo", 1), ("", 1), ("",), (Odd(), 1), (Odd(),),
+              [Odd(), None], (b"come", 1), (b"serve",), (1, "come"), (None, 1), (0, 1), (("come",), 1), (["serve"],),
+              "come", "serve", ("c", "o"), {"come": 1}, {"serve"}, {0: "come", 1: 1}, [["come", 1]], [("serve",)]]
+    ahead = [("come", 1), ("come", None)]
+    histories = [thing for thing in no_numbers() if not isinstance(thing, (list, tuple)) or thing]
+    histories += [0, 1, ("come", 1), ["come", 1], ("serve",), ["serve"], {("come", 1)}, {("come", 1): 1}, "come 1"]
+    histories += [[deed] for deed in deeds] + [(deed,) for deed in deeds]
+    histories += [ahead + [deed] for deed in deeds] + [tuple(ahead) + (deed, ("serve",)) for deed in deeds]
+    histories += [[("serve",)], (("serve",),), [["serve"]], [("come", 1), ("serve",), ("serve",)],
+                  [("serve",), ("come", 1)], ahead + [("serve",)] * 3, [("come", 0)] * 150 + [("serve",)] * 151,
+                  [("come", 2), ("serve",), ("come", 2), ("serve",), ("serve",), ("come", 1), ("come", 1)]]
+    return histories
+
+
+def no_texts():
+    """What is no text at all."""
+    return [thing for thing in no_numbers() if not isinstance(thing, str)] + [0, 1, b"0 x 0", ["0 x 0"], ("0 x 0",),
+                                                                                 [("0", "x", "0")], {"0 x 0"}]
